@@ -10,6 +10,7 @@ HELD = 5
 INFLOWS = 6
 
 # The places of the pieces in the tuple of a right (c3).
+RIGHT_NAME = 0
 RIGHT_SITE = 1
 DEMANDS = 2
 

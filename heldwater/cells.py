@@ -20,6 +20,11 @@ def own_water(basin, cell):
     return site[INFLOWS][m] + (site[HELD] if m == 0 else 0)
 
 
+def all_water(basin):
+    """All water of a basin: all inflows and all that is held."""
+    return sum([own_water(basin, cell) for cell in cells_of(basin)])
+
+
 def ways_into(basin, cell):
     """The ways (kind, cell it comes from, limit or None) into a cell: the stored water, then site by site."""
     s, m = cell

@@ -22,6 +22,17 @@ def greatest(basin, rights):
     return tuple(serve_all(Network(basin), basin, rights))
 
 
+def rows_of_rights(basin, rights, amounts):
+    """For each right, of the amounts of all claims, its own month by month."""
+    months = basin[0]
+    return tuple([tuple(amounts[r * months:(r + 1) * months]) for r in range(len(rights))])
+
+
+def delivered(basin, rights):
+    """For each right its greatest deliveries, month by month."""
+    return rows_of_rights(basin, rights, greatest(basin, rights))
+
+
 def short_claims(basin, rights):
     """The pairs (claim, by how much it is short) of all claims that are short (g2)."""
     pairs = []

@@ -1,6 +1,6 @@
 """Water that is sent on its ways from cell to cell, and sent on other ways again."""
 
-from heldwater.cells import cells_of, own_water, ways_into
+from heldwater.cells import all_water, cells_of, own_water, ways_into
 
 # Where all water of a basin comes from: a node beside the cells.
 SOURCE = "source"
@@ -21,13 +21,13 @@ class Network:
         cells = cells_of(basin)
         for cell in cells:
             self.leaving[cell] = []
-        all_water = sum([own_water(basin, cell) for cell in cells])
+        never_full = all_water(basin) + 1
         for cell in cells:
             self.add_way(SOURCE, cell, own_water(basin, cell))
             for kind, ahead, limit in ways_into(basin, cell):
                 self.arcs[(kind, ahead)] = len(self.heads)
                 # A way without a limit is never full: one more than all water is never on it.
-                self.add_way(ahead, cell, all_water + 1 if limit is None else limit)
+                self.add_way(ahead, cell, never_full if limit is None else limit)
 
     def add_way(self, tail, head, limit):
         """Puts in a way that carries nothing yet."""

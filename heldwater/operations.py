@@ -1,7 +1,7 @@
 """The operation: the first of the plans that give the greatest deliveries (o1)."""
 
 from heldwater.cells import LET_DOWN, STORED, cells_of
-from heldwater.flows import serve_all
+from heldwater.flows import rows_of_rights, serve_all
 from heldwater.network import Network
 
 
@@ -10,16 +10,13 @@ def operation(basin, rights):
     months, sites = basin
     network = Network(basin)
     amounts = serve_all(network, basin, rights)
-    deliveries = []
-    for r in range(len(rights)):
-        deliveries.append(tuple(amounts[r * months:(r + 1) * months]))
     # The network has no spills behind a way, and no ways beyond the last month: the first plan
     # wastes no water there, because a plan that lets down or stores less of it is ahead of it.
     releases = settle_all(network, basin, LET_DOWN)
     storages = settle_all(network, basin, STORED)
     for s, kept in enumerate(amounts[len(rights) * months:]):
         storages[s][months - 1] = kept
-    return tuple(deliveries), as_rows(releases), as_rows(storages)
+    return rows_of_rights(basin, rights, amounts), as_rows(releases), as_rows(storages)
 
 
 def settle_all(network, basin, kind):

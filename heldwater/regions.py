@@ -3,6 +3,7 @@
 from heldwater.basins import claim_cell, claim_size, claims
 from heldwater.cells import cells_of, own_water, ways_into
 from heldwater.flows import greatest, serve
+from heldwater.forms import is_tuple_of, is_whole
 from heldwater.network import Network
 
 
@@ -24,6 +25,12 @@ def entering(basin, region):
     return total
 
 
+def most_within(basin, region):
+    """The supply of a region and what can enter it together, or None if it is open (r2)."""
+    limit = entering(basin, region)
+    return None if limit is None else supply(basin, region) + limit
+
+
 def is_region(basin, region):
     """Whether this is a region of the basin, whatever it is (c6)."""
     if not isinstance(region, tuple) or len(region) == 0:
@@ -35,25 +42,33 @@ def is_region(basin, region):
 
 def is_pair(cell):
     """Whether this is a pair of integers, whatever it is."""
-    return isinstance(cell, tuple) and len(cell) == 2 and all([is_whole(part) for part in cell])
-
-
-def is_whole(part):
-    """Whether this is an integer, whatever it is; True and False are none."""
-    return isinstance(part, int) and not isinstance(part, bool)
+    return is_tuple_of(cell, 2) and all([is_whole(part) for part in cell])
 
 
 def is_exhausted(basin, rights, region, claim):
     """Whether a region is exhausted at a claim (r3)."""
-    limit = entering(basin, region)
-    if limit is None or claim_cell(basin, rights, claim) not in region:
+    return is_used_up(basin, rights, greatest(basin, rights), region, claim)
+
+
+def is_used_up(basin, rights, amounts, region, claim):
+    """Whether a region that is not open has a claim's cell, and all its water goes to claims up to this one.
+
+    The amounts are what all claims are given, in their order.
+    """
+    most = most_within(basin, region)
+    if most is None or claim_cell(basin, rights, claim) not in region:
         return False
-    used = 0
-    ahead = claims_before(basin, rights, claim) + (claim,)
-    for other, amount in zip(ahead, greatest(basin, rights)):
-        if claim_cell(basin, rights, other) in region:
-            used += amount
-    return used == supply(basin, region) + limit
+    first = claims_before(basin, rights, claim) + (claim,)
+    return given_within(basin, rights, amounts, region, first) == most
+
+
+def given_within(basin, rights, amounts, region, first):
+    """How much the first claims are given, of those whose cells are in a region."""
+    total = 0
+    for claim, amount in zip(first, amounts):
+        if claim_cell(basin, rights, claim) in region:
+            total += amount
+    return total
 
 
 def reason(basin, rights, claim):

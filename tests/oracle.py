@@ -127,6 +127,37 @@ def greatest_by_regions(basin, rights):
     return tuple(after - before for before, after in zip(sums, sums[1:]))
 
 
+def all_water(basin):
+    return sum(site[5] + sum(site[6]) for site in basin[1])
+
+
+def rows_of(basin, rights, amounts):
+    """For each right the amounts of its claims."""
+    months = basin[0]
+    return tuple(amounts[r * months:(r + 1) * months] for r in range(len(rights)))
+
+
+def deliveries_by_regions(basin, rights):
+    """For each right its greatest deliveries."""
+    return rows_of(basin, rights, greatest_by_regions(basin, rights))
+
+
+def all_served(basin, rights):
+    """Whether no claim of a right is short: no region lacks what the rights in it demand."""
+    claims = [(cell, size) for claim, cell, size in all_claims(basin, rights) if claim[0] == "right"]
+    for region in all_regions(basin):
+        limit = limit_of(basin, region)
+        if limit is not None and sum(size for cell, size in claims if cell in region) > limit:
+            return False
+    return True
+
+
+def with_room(basin, name, room):
+    """The basin with another room of a site."""
+    months, sites = basin
+    return months, tuple(site[:4] + (room if site[0] == name else site[4],) + site[5:] for site in sites)
+
+
 def exhausted_regions(basin, rights, amounts, k):
     """Every region that is exhausted at the claim with the number k."""
     claims = all_claims(basin, rights)

@@ -41,6 +41,37 @@ EXAMPLES = {
 >>> operation(basin, rights)
 (((3, 4), (2, 0)), ((1, 4), (0, 0)), ((3, 0), (0, 0)))
 ''',
+    "papers": r'''
+>>> from heldwater.basintext import parse_basin
+>>> from heldwater.papers import certificate_fault, make_certificate
+>>> basin, rights = parse_basin("site dale to mouth room 4 flow 6 1\nsite mouth flow 2 0\nright mill at mouth wants 3 4\nright farm at dale wants 3 2")
+>>> plan, regions = make_certificate(basin, rights)
+>>> regions[0], len(regions), certificate_fault(basin, rights, (plan, regions)), certificate_fault(basin, rights, (plan, regions[1:]))
+(((0, 0), (1, 0), (0, 1), (1, 1)), 3, None, ('regions',))
+''',
+    "plantext": r'''
+>>> from heldwater.basintext import parse_basin
+>>> from heldwater.papers import make_certificate
+>>> from heldwater.plantext import certificate_text, parse_plan
+>>> basin, rights = parse_basin("site dale to mouth room 4 flow 6 1\nsite mouth flow 2 0\nright mill at mouth wants 3 4")
+>>> certificate_text(basin, rights, make_certificate(basin, rights))
+'give mill 3 4\nlet dale 1 4\nstore dale 4 1\nlet mouth 0 0\nstore mouth 0 0\nregion dale/1 mouth/1'
+''',
+    "plantext, a text that is refused": r'''
+>>> from heldwater.basintext import parse_basin
+>>> from heldwater.plantext import parse_plan
+>>> basin, rights = parse_basin("site lake flow 5")
+>>> parse_plan(basin, rights, "let lake 0\nstore lake 01")
+Traceback (most recent call last):
+heldwater.errors.BadPlan: line 2
+''',
+    "sizes": r'''
+>>> from heldwater.basintext import parse_basin
+>>> from heldwater.sizes import firm_yield, least_room
+>>> basin, rights = parse_basin("site dale to mouth room 4 flow 6 1\nsite mouth flow 2 0\nright mill at mouth wants 3 4\nright farm at dale wants 3 2")
+>>> least_room(basin, rights[:1], "dale"), least_room(basin, rights, "dale"), firm_yield(basin, (), "mouth")
+(3, None, 4)
+''',
     "operations, as the part on parcels shows it": r'''
 >>> from heldwater.basintext import parse_basin
 >>> from heldwater.operations import operation

@@ -28,6 +28,18 @@ FUNCTIONS = {
         "is_exhausted": ["basin", "rights", "region", "claim"], "reason": ["basin", "rights", "claim"],
     },
     "operations": {"operation": ["basin", "rights"]},
+    "papers": {
+        "certificate_fault": ["basin", "rights", "certificate"], "make_certificate": ["basin", "rights"],
+        "bound_of": ["basin", "rights", "region", "claim"],
+    },
+    "plantext": {
+        "plan_text": ["basin", "rights", "plan"], "parse_plan": ["basin", "rights", "text"],
+        "certificate_text": ["basin", "rights", "certificate"], "parse_certificate": ["basin", "rights", "text"],
+    },
+    "sizes": {
+        "least_room": ["basin", "rights", "site"], "firm_yield": ["basin", "rights", "site"],
+        "with_room": ["basin", "site", "room"],
+    },
 }
 
 ERRORS = {
@@ -165,7 +177,7 @@ class Results(unittest.TestCase):
     """What is returned is new and made of tuples; arguments stay as they are."""
 
     def test_tuples_all_the_way_down(self):
-        from heldwater import basins, basintext, flows, operations, plans, regions
+        from heldwater import basins, basintext, flows, operations, papers, plans, plantext, regions, sizes
         basin, rights = basintext.parse_basin(
             "site up to low in 1 reach 3 room 2 held 1 flow 5 0\nsite low flow 0 0\nright a at low wants 2 4"
         )
@@ -176,7 +188,11 @@ class Results(unittest.TestCase):
             plans.spills(basin, rights, plan), plans.gives(basin, rights, plan),
             plans.plan_fault(basin, (), (((),) + plan[1:])[:1] + (((9, 9), (9, 9)), plan[2])),
             flows.greatest(basin, rights), flows.short_claims(basin, rights),
-            regions.reason(basin, rights, ("right", 0, 0)),
+            regions.reason(basin, rights, ("right", 0, 0)), papers.make_certificate(basin, rights),
+            papers.certificate_fault(basin, rights, None), papers.certificate_fault(basin, rights, (plan, (None,))),
+            plantext.parse_plan(basin, rights, plantext.plan_text(basin, rights, plan)),
+            plantext.parse_certificate(basin, rights, plantext.certificate_text(basin, rights, (plan, ()))),
+            sizes.with_room(basin, "up", 5),
         ):
             self.whole(result)
 

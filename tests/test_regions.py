@@ -2,6 +2,7 @@
 
 import unittest
 
+import odd
 import oracle
 from heldwater.basins import claim_cell, claims
 from heldwater.basintext import parse_basin
@@ -20,21 +21,6 @@ DALE = (
     "site dale to mouth room 4 flow 6 1\nsite mouth flow 2 0\n"
     "right mill at mouth wants 3 4\nright farm at dale wants 3 2"
 )
-
-
-class Odd:
-    """Something that is equal to all and fails when it is asked for more."""
-
-    def __eq__(self, other):
-        return True
-
-    __hash__ = None
-
-    def __len__(self):
-        raise RuntimeError
-
-    def __iter__(self):
-        raise RuntimeError
 
 
 class Supply(unittest.TestCase):
@@ -110,17 +96,17 @@ class IsRegion(unittest.TestCase):
                 self.assertFalse(is_region(basin, region[::-1]))
 
     def test_what_is_none(self):
-        odd = Odd()
-        for thing in (
+        strange = odd.Odd()
+        for thing in odd.ODD_THINGS + (
             # not a tuple of one cell or more
-            (), None, 0, 1, True, "", "ab", b"ab", [], [(0, 0)], {}, {(0, 0): 1}, {(0, 0)}, 1.5, odd, range(3),
+            (), None, 0, 1, True, "", "ab", b"ab", [], [(0, 0)], {}, {(0, 0): 1}, {(0, 0)}, 1.5, strange, range(3),
             object(),
-            (0, 0), (0,), ("ab",), ("",), (None,), (True,), ((),), (((0, 0),),), (odd,), [((0, 0),)], iter([(0, 0)]),
+            (0, 0), (0,), ("ab",), ("",), (None,), (True,), ((),), (((0, 0),),), (strange,), [((0, 0),)], iter([(0, 0)]),
             # a cell that is none
             ([0, 0],), ((0, 0), [1, 0]), ((0,),), ((0, 0, 0),), ((0, 0), None), ((0, 0), 1), ("00",), ((0, 0), "10"),
             ((False, 0),), ((0, False),), ((True, 0),), ((0, True),), ((0.0, 0),), ((0, 0.0),), (("0", 0),),
             ((0, None),),
-            ((odd, 0),), ((0, odd),), ((odd, odd),), (([], 0),), ((0, {}),), ((0, 0), (1, True)), ({0: 0},), (b"ab",),
+            ((strange, 0),), ((0, strange),), ((strange, strange),), (([], 0),), ((0, {}),), ((0, 0), (1, True)), ({0: 0},), (b"ab",),
             # a cell that is not there
             ((4, 0),), ((0, 3),), ((-1, 0),), ((0, -1),), ((10 ** 40, 0),), ((0, 10 ** 40),), ((0, 0), (0, 3)),
             ((0, 0), (4, 0)), ((-1, 0), (0, 0)), ((3, 2), (4, 2)),
