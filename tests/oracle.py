@@ -72,6 +72,29 @@ def right_plans(basin, rights):
     yield from walk(0)
 
 
+def random_plan(luck, basin, rights):
+    """One right plan, cell by cell by luck: it may spill, let down too late, and keep what rights lack."""
+    months, sites = basin
+    given, released, stored = ([[0] * months for _ in rows] for rows in (rights, sites, sites))
+    stock = {(s, m): sites[s][6][m] + (sites[s][5] if m == 0 else 0) for s, m in cells(basin)}
+    for s, m in cells(basin):
+        _, lower, travel, reach, room, _, _ = sites[s]
+        left = stock[s, m]
+        # all is spilled, or each use takes a part of what is left, or as much as it can
+        share = luck.choice((0, 1, 1, 2))
+        wants = [(given[r], rights[r][2][m]) for r in range(len(rights)) if number_of(basin, rights[r][1]) == s]
+        wants.append((released[s], 0 if lower is None else left if reach is None else reach))
+        wants.append((stored[s], room))
+        for row, most in wants if share else []:
+            row[m] = min(most, left) if share == 2 else luck.randint(0, min(most, left))
+            left -= row[m]
+        if m + 1 < months:
+            stock[s, m + 1] += stored[s][m]
+        if lower is not None and m + travel < months:
+            stock[number_of(basin, lower), m + travel] += released[s][m]
+    return tuple(tuple(tuple(row) for row in rows) for rows in (given, released, stored))
+
+
 def given_to_claims(basin, rights, plan):
     """What a plan gives each claim."""
     deliveries, _, storages = plan

@@ -72,12 +72,36 @@ heldwater.errors.BadPlan: line 2
 >>> least_room(basin, rights[:1], "dale"), least_room(basin, rights, "dale"), firm_yield(basin, (), "mouth")
 (3, None, 4)
 ''',
-    "operations, as the part on parcels shows it": r'''
+    "parcels": r'''
 >>> from heldwater.basintext import parse_basin
 >>> from heldwater.operations import operation
+>>> from heldwater.parcels import parcels
 >>> basin, rights = parse_basin("site dale to mouth room 4 held 2 flow 3 1\nsite mouth flow 2 0\nright mill at mouth wants 3 4")
 >>> operation(basin, rights)
 (((3, 4),), ((1, 4), (0, 0)), ((4, 1), (0, 0)))
+>>> deliveries, stored, spilled, lost = parcels(basin, rights, operation(basin, rights))
+>>> deliveries
+((((('held', 0), 1), (('in', 1, 0), 2)), ((('held', 0), 1), (('in', 0, 0), 3))),)
+>>> spilled[0], stored, lost[1]
+(((), ()), (((('in', 0, 1), 1),), ()), ((), ()))
+''',
+    # The document has one parenthesis too many ahead of what `under` tells; it stands here without it.
+    "leases": r'''
+>>> from heldwater.basintext import parse_basin
+>>> from heldwater.leases import gets, harm, safe_lease, under
+>>> basin, rights = parse_basin("site up to low flow 4\nsite low flow 1\nright a at low wants 4\nright b at low wants 2\nright c at up wants 3")
+>>> under(basin, rights, (("a", "c", 0, 2),))
+(('a', 'low', (2,)), ('leasea', 'up', (2,)), ('b', 'low', (2,)), ('c', 'up', (3,)))
+>>> harm(basin, rights, (("a", "c", 0, 2),)), gets(basin, rights, (("a", "c", 0, 2),), "c"), safe_lease(basin, rights, "a", "c", 0)
+((), (2,), 4)
+''',
+    "dockets": r'''
+>>> from heldwater.basintext import parse_basin
+>>> from heldwater.dockets import Docket
+>>> basin, rights = parse_basin("site dale to mouth room 4 flow 6 1\nsite mouth flow 2 0\nright mill at mouth wants 3 4\nright farm at dale wants 3 2")
+>>> docket = Docket(basin)
+>>> docket.apply(("file", rights[0], 0)), docket.apply(("file", rights[1], 1)), docket.effects(("rank", "farm", 0))
+((('mill', 0, 0, 3), ('mill', 1, 0, 4)), (('farm', 0, 0, 2),), (('mill', 1, 4, 1), ('farm', 0, 2, 3), ('farm', 1, 0, 2)))
 ''',
 }
 

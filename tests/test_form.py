@@ -40,6 +40,25 @@ FUNCTIONS = {
         "least_room": ["basin", "rights", "site"], "firm_yield": ["basin", "rights", "site"],
         "with_room": ["basin", "site", "room"],
     },
+    "parcels": {"parcels": ["basin", "rights", "plan"]},
+    "sizepapers": {
+        "judge_room": ["basin", "rights", "site", "room", "paper"],
+        "judge_least_room": ["basin", "rights", "site", "paper"],
+        "room_paper": ["basin", "rights", "site", "room"], "least_room_paper": ["basin", "rights", "site"],
+    },
+    "leases": {
+        "under": ["basin", "rights", "leases"], "harm": ["basin", "rights", "leases"],
+        "gets": ["basin", "rights", "leases", "name"],
+        "safe_lease": ["basin", "rights", "lender", "borrower", "month"],
+    },
+}
+
+# Each class with its methods and their arguments, file by file.
+CLASSES = {
+    "dockets": {"Docket": {
+        "__init__": ["self", "basin"], "apply": ["self", "change"], "effects": ["self", "change"], "undo": ["self"],
+        "rights": ["self"], "deliveries": ["self"], "journal": ["self"],
+    }},
 }
 
 ERRORS = {
@@ -69,6 +88,17 @@ class Interface(unittest.TestCase):
                 with self.subTest((name, function)):
                     self.assertIn(function, defined)
                     self.assertEqual(list(inspect.signature(getattr(module, function)).parameters), arguments)
+
+    def test_classes(self):
+        for name, classes in CLASSES.items():
+            defined = {node.name: node for node in ast.parse((PACKAGE / f"{name}.py").read_text()).body
+                       if isinstance(node, ast.ClassDef)}
+            for told, methods in classes.items():
+                made = {node.name: [argument.arg for argument in node.args.args] for node in defined[told].body
+                        if isinstance(node, ast.FunctionDef)}
+                for method, arguments in methods.items():
+                    with self.subTest((name, told, method)):
+                        self.assertEqual(made.get(method), arguments)
 
     def test_errors(self):
         defined = {node.name: node for node in ast.parse((PACKAGE / "errors.py").read_text()).body
