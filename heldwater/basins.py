@@ -23,6 +23,22 @@ def site_number(basin, name):
     return None
 
 
+def right_number(rights, name):
+    """The number of the right with this name, or None."""
+    for r, right in enumerate(rights):
+        if right[RIGHT_NAME] == name:
+            return r
+    return None
+
+
+def with_piece(basin, name, place, piece):
+    """The basin with something else in a place of the tuple of a site."""
+    months, sites = basin
+    at = site_number(basin, name)
+    site = sites[at][:place] + (piece,) + sites[at][place + 1:]
+    return months, sites[:at] + (site,) + sites[at + 1:]
+
+
 def route(basin, name):
     """The pairs (name, delay) from a site on down to the outlet (b3)."""
     pairs = []

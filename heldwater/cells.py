@@ -1,6 +1,6 @@
-"""The cells of a basin (c6), and the water that comes into each."""
+"""The cells of a basin (c6), and the ways of water into each and out of it."""
 
-from heldwater.basins import HELD, INFLOWS, NAME, NEXT, REACH, ROOM, TRAVEL
+from heldwater.basins import HELD, INFLOWS, NAME, NEXT, REACH, ROOM, TRAVEL, site_number
 
 # The two kinds of ways from one cell to another.
 STORED = "stored"
@@ -35,4 +35,17 @@ def ways_into(basin, cell):
     for u, above in enumerate(sites):
         if above[NEXT] == sites[s][NAME] and m >= above[TRAVEL]:
             ways.append((LET_DOWN, (u, m - above[TRAVEL]), above[REACH]))
+    return ways
+
+
+def ways_out_of(basin, cell):
+    """The ways (cell it leads to, limit or None) out of a cell that end in time: to the next month, then down."""
+    months, sites = basin
+    s, m = cell
+    site = sites[s]
+    ways = []
+    if m + 1 < months:
+        ways.append(((s, m + 1), site[ROOM]))
+    if site[NEXT] is not None and m + site[TRAVEL] < months:
+        ways.append(((site_number(basin, site[NEXT]), m + site[TRAVEL]), site[REACH]))
     return ways

@@ -1,11 +1,11 @@
 """Dockets: rights in an order that changes (d1, d2), and what was done with them (j1)."""
 
-from heldwater.basins import RIGHT_NAME, RIGHT_SITE, site_number
+from heldwater.basins import RIGHT_NAME, RIGHT_SITE, right_number, site_number
+from heldwater.changes import MOST_CHANGES, TOO_MANY, UNDO, effects_between, line_of, text_of
 from heldwater.errors import BadChange
 from heldwater.flows import delivered
 
 MOST_RIGHTS = 4
-MOST_CHANGES = 30
 
 
 class Docket:
@@ -30,17 +30,17 @@ class Docket:
         """The effects that a change would have; raises BadChange (d2)."""
         wrong = change_fault(self._basin, self._order, change)
         if wrong is None and len(self._earlier) >= MOST_CHANGES:
-            wrong = "too many changes"
+            wrong = TOO_MANY
         if wrong is not None:
             raise BadChange(wrong)
-        return effects_between(self._basin, self._order, changed(self._order, change))
+        return effects_between(self._basin, self._order, self._basin, changed(self._order, change))
 
     def undo(self):
         """Takes back the last change that was not undone; False if there is none."""
         if not self._earlier:
             return False
         self._order = self._earlier.pop()
-        self._lines.append("undo")
+        self._lines.append(UNDO)
         return True
 
     def rights(self):
@@ -53,15 +53,7 @@ class Docket:
 
     def journal(self):
         """The journal of all changes and undos (j1)."""
-        return "".join([line + "\n" for line in self._lines])
-
-
-def rank_of(order, name):
-    """The rank of the right with this name, or None."""
-    for rank, right in enumerate(order):
-        if right[RIGHT_NAME] == name:
-            return rank
-    return None
+        return text_of(self._lines)
 
 
 def change_fault(basin, order, change):
@@ -69,7 +61,7 @@ def change_fault(basin, order, change):
     kind = change[0]
     if kind == "file":
         return filing_fault(basin, order, change[1], change[2])
-    if rank_of(order, change[1]) is None:
+    if right_number(order, change[1]) is None:
         return "no such right"
     if kind == "move" and site_number(basin, change[2]) is None:
         return "no such site"
@@ -80,7 +72,7 @@ def change_fault(basin, order, change):
 
 def filing_fault(basin, order, right, rank):
     """Why a right is not filed with a rank among these rights, or None."""
-    if rank_of(order, right[RIGHT_NAME]) is not None:
+    if right_number(order, right[RIGHT_NAME]) is not None:
         return "name taken"
     if len(order) >= MOST_RIGHTS:
         return "too many rights"
@@ -96,7 +88,7 @@ def changed(order, change):
     kind = change[0]
     if kind == "file":
         return put_in(order, change[1], change[2])
-    rank = rank_of(order, change[1])
+    rank = right_number(order, change[1])
     name, place, demands = order[rank]
     others = order[:rank] + order[rank + 1:]
     if kind == "withdraw":
@@ -123,28 +115,4 @@ def change_line(change):
         pieces = [kind, change[1]] + list(change[2])
     else:
         pieces = list(change)
-    return " ".join([str(piece) for piece in pieces])
-
-
-def effects_between(basin, order, later):
-    """Where the greatest deliveries of rights and of later ones differ: (name, month, before, after) (d2)."""
-    before = rows_by_name(basin, order)
-    after = rows_by_name(basin, later)
-    nothing = (0,) * basin[0]
-    names = list(before) + [name for name in after if name not in before]
-    found = []
-    for name in names:
-        ahead = before.get(name, nothing)
-        behind = after.get(name, nothing)
-        for m in range(basin[0]):
-            if ahead[m] != behind[m]:
-                found.append((name, m, ahead[m], behind[m]))
-    return tuple(found)
-
-
-def rows_by_name(basin, order):
-    """The greatest deliveries of each right, by its name."""
-    rows = {}
-    for right, row in zip(order, delivered(basin, order)):
-        rows[right[RIGHT_NAME]] = row
-    return rows
+    return line_of(pieces)

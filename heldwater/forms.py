@@ -11,9 +11,14 @@ def is_tuple_of(thing, many):
     return isinstance(thing, tuple) and len(thing) == many
 
 
-def is_row(thing, months):
-    """Whether this is a tuple of an integer from 0 for each month."""
-    return is_tuple_of(thing, months) and all([is_whole(amount) and amount >= 0 for amount in thing])
+def is_row(thing, many):
+    """Whether this is a tuple of so many integers from 0."""
+    return is_tuple_of(thing, many) and all([is_whole(amount) and amount >= 0 for amount in thing])
+
+
+def is_row_within(thing, many, most):
+    """Whether this is a tuple of so many integers from 0 to this."""
+    return is_row(thing, many) and all([amount <= most for amount in thing])
 
 
 def is_table(thing, many, months):

@@ -52,8 +52,8 @@ class Network:
             sent += amount
         return sent
 
-    def find_path(self, tail, head):
-        """The arcs of a shortest path from one node to another, the last one first; [] if there is none."""
+    def search(self, tail, head):
+        """The nodes to which more could be sent from this one, each with the arc into it; ends at the head."""
         came_by = {tail: None}
         queue = [tail]
         k = 0
@@ -65,12 +65,21 @@ class Network:
                     came_by[node] = arc
                     queue.append(node)
             k += 1
+        return came_by
+
+    def find_path(self, tail, head):
+        """The arcs of a shortest path from one node to another, the last one first; [] if there is none."""
+        came_by = self.search(tail, head)
         path = []
         node = head
         while node in came_by and node != tail:
             path.append(came_by[node])
             node = self.heads[twin(came_by[node])]
         return path
+
+    def nodes_below(self, tail):
+        """The nodes to which more could be sent from this one, itself among them."""
+        return list(self.search(tail, None))
 
     def nodes_above(self, head):
         """The nodes from which more could be sent to this one, itself among them."""

@@ -14,15 +14,13 @@ def supply(basin, region):
 
 def entering(basin, region):
     """What can enter a region, or None if it is open (r1)."""
-    total = 0
-    for cell in region:
-        for _, ahead, limit in ways_into(basin, cell):
-            if ahead in region:
-                continue
-            if limit is None:
-                return None
-            total += limit
-    return total
+    return most_across(region, [(ahead, limit) for cell in region for _, ahead, limit in ways_into(basin, cell)])
+
+
+def most_across(region, ways):
+    """What the ways (other end, limit) that leave or enter a region can take together; None if one has no limit."""
+    limits = [limit for end, limit in ways if end not in region]
+    return None if None in limits else sum(limits)
 
 
 def most_within(basin, region):

@@ -1,17 +1,13 @@
 """Sizes: the least room of a site, and its firm yield (z1, z2)."""
 
-from heldwater.basins import DEMANDS, HELD, ROOM, site_number
+from heldwater.basins import DEMANDS, HELD, ROOM, site_number, with_piece
 from heldwater.cells import all_water
 from heldwater.flows import delivered
 
 
 def with_room(basin, site, room):
     """The basin with another room of a site."""
-    months, sites = basin
-    rows = list(sites)
-    at = site_number(basin, site)
-    rows[at] = rows[at][:ROOM] + (room,) + rows[at][ROOM + 1:]
-    return months, tuple(rows)
+    return with_piece(basin, site, ROOM, room)
 
 
 def held_at(basin, site):
@@ -56,6 +52,10 @@ def firm_yield(basin, rights, site):
 
 def is_sure(basin, rights, site, amount):
     """Whether a youngest right at a site that demands this in every month is not short."""
-    demands = (amount,) * basin[0]
-    more = rights + (("the youngest", site, demands),)
-    return delivered(basin, more)[-1] == demands
+    more = even_right(basin, site, amount)
+    return delivered(basin, rights + (more,))[-1] == more[DEMANDS]
+
+
+def even_right(basin, site, amount):
+    """One right more at a site, which demands this in every month."""
+    return "one more", site, (amount,) * basin[0]

@@ -181,6 +181,48 @@ def with_room(basin, name, room):
     return months, tuple(site[:4] + (room if site[0] == name else site[4],) + site[5:] for site in sites)
 
 
+def with_inflows(basin, table):
+    """The basin with the inflows of a table."""
+    months, sites = basin
+    return months, tuple(site[:6] + (tuple(row),) for site, row in zip(sites, table))
+
+
+def waste_by_cells(basin, rights, plan):
+    """For each cell what a right plan spills there, and lets down so that it never arrives."""
+    months, sites = basin
+    deliveries, releases, storages = plan
+    left = {(s, m): sites[s][6][m] + (storages[s][m - 1] if m else sites[s][5]) for s, m in cells(basin)}
+    wasted = {}
+    for s, m in cells(basin):
+        name, lower, travel = sites[s][:3]
+        down = releases[s][m]
+        wasted[s, m] = 0
+        if lower is not None and m + travel < months:
+            left[number_of(basin, lower), m + travel] += down
+        else:
+            wasted[s, m] = down
+        given = sum(row[m] for row, right in zip(deliveries, rights) if right[1] == name)
+        left[s, m] -= given + down + storages[s][m]
+    return {cell: wasted[cell] + left[cell] for cell in left}
+
+
+def surplus_of(basin, rights, region):
+    """The surplus of a region, by all that can leave it on any way; None if it runs off."""
+    months, sites = basin
+    water = {(s, m): sites[s][6][m] + (0 if m else sites[s][5]) for s, m in cells(basin)}
+    limits = []
+    for s, m in cells(basin):
+        _, lower, travel, reach, room, _, _ = sites[s]
+        ways = [((s, m + 1), room)]
+        if lower is not None:
+            ways.append(((number_of(basin, lower), m + travel), reach))
+        limits += [limit for end, limit in ways if (s, m) in region and end in water and end not in region]
+    if None in limits:
+        return None
+    claimed = sum(size for _, cell, size in all_claims(basin, rights) if cell in region)
+    return sum(water[cell] for cell in region) - claimed - sum(limits)
+
+
 def exhausted_regions(basin, rights, amounts, k):
     """Every region that is exhausted at the claim with the number k."""
     claims = all_claims(basin, rights)

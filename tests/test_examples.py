@@ -8,9 +8,13 @@ EXAMPLES = {
 >>> from heldwater.basintext import parse_basin
 >>> from heldwater.flows import greatest
 >>> from heldwater.regions import reason
+>>> from heldwater.seasons import Season
 >>> basin, rights = parse_basin("site dale to mouth room 4 flow 6 1\nsite mouth flow 2 0\nright mill at mouth wants 3 4\nright farm at dale wants 3 2")
 >>> greatest(basin, rights)[:4], reason(basin, rights, ("right", 1, 0))
 ((3, 4, 2, 0), ((0, 0), (1, 0), (0, 1), (1, 1)))
+>>> season = Season(basin, rights)
+>>> season.close((6, 2)), season.expected()
+(((3, 2), (1, 0), (3, 0), (0, 0)), ((3, 4), (2, 0)))
 ''',
     "basintext": r'''
 >>> from heldwater.basintext import basin_text, parse_basin
@@ -102,6 +106,30 @@ heldwater.errors.BadPlan: line 2
 >>> docket = Docket(basin)
 >>> docket.apply(("file", rights[0], 0)), docket.apply(("file", rights[1], 1)), docket.effects(("rank", "farm", 0))
 ((('mill', 0, 0, 3), ('mill', 1, 0, 4)), (('farm', 0, 0, 2),), (('mill', 1, 4, 1), ('farm', 0, 2, 3), ('farm', 1, 0, 2)))
+''',
+    "seasons": r'''
+>>> from heldwater.basintext import parse_basin
+>>> from heldwater.seasons import Season
+>>> basin, rights = parse_basin("site dale to mouth room 4 flow 6 1\nsite mouth flow 2 0\nright mill at mouth wants 3 4\nright farm at dale wants 3 2")
+>>> season = Season(basin, rights)
+>>> season.expected(), season.close((12, 2)), season.expected()
+(((3, 4), (2, 0)), ((3, 3), (1, 0), (4, 0), (4, 0)), ((3, 4), (3, 1)))
+>>> season.undo(), season.close((4, 2)), season.close((0, 0))[0]
+(True, ((3, 0), (1, 0), (3, 0), (0, 0)), (3, 0))
+''',
+    "waste": r'''
+>>> from heldwater.basintext import parse_basin
+>>> from heldwater.waste import least_waste, overfull, surplus
+>>> basin, rights = parse_basin("site dale to mouth reach 1 room 2 flow 9 0\nsite mouth flow 0 0\nright mill at mouth wants 3 4")
+>>> least_waste(basin, rights), overfull(basin, rights), surplus(basin, rights, ((0, 0),))
+(6, ((0, 0),), 6)
+''',
+    "curves": r'''
+>>> from heldwater.basintext import parse_basin
+>>> from heldwater.curves import reach_worth, room_worth, yield_curve
+>>> basin, rights = parse_basin("site dale to mouth room 1 flow 6 1\nsite mouth flow 2 0\nright mill at mouth wants 3 4")
+>>> yield_curve(basin, "dale", "mouth"), room_worth(basin, rights), reach_worth(basin, rights)
+(((0, 1), (1, 2), (2, 3), (3, 4)), (1, 1), (0, 0))
 ''',
 }
 

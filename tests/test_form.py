@@ -51,6 +51,13 @@ FUNCTIONS = {
         "gets": ["basin", "rights", "leases", "name"],
         "safe_lease": ["basin", "rights", "lender", "borrower", "month"],
     },
+    "waste": {
+        "waste_of": ["basin", "rights", "plan"], "leaving": ["basin", "region"], "surplus": ["basin", "rights", "region"],
+        "least_waste": ["basin", "rights"], "overfull": ["basin", "rights"],
+    },
+    "curves": {
+        "yield_curve": ["basin", "dam", "place"], "room_worth": ["basin", "rights"], "reach_worth": ["basin", "rights"],
+    },
 }
 
 # Each class with its methods and their arguments, file by file.
@@ -58,6 +65,10 @@ CLASSES = {
     "dockets": {"Docket": {
         "__init__": ["self", "basin"], "apply": ["self", "change"], "effects": ["self", "change"], "undo": ["self"],
         "rights": ["self"], "deliveries": ["self"], "journal": ["self"],
+    }},
+    "seasons": {"Season": {
+        "__init__": ["self", "basin", "rights"], "close": ["self", "inflows"], "month": ["self"], "expected": ["self"],
+        "outlook": ["self"], "records": ["self"], "undo": ["self"], "journal": ["self"],
     }},
 }
 
