@@ -131,6 +131,33 @@ heldwater.errors.BadPlan: line 2
 >>> yield_curve(basin, "dale", "mouth"), room_worth(basin, rights), reach_worth(basin, rights)
 (((0, 1), (1, 2), (2, 3), (3, 4)), (1, 1), (0, 0))
 ''',
+    "ensembles": r'''
+>>> from heldwater.basintext import parse_basin
+>>> from heldwater.ensembles import hindsight, reliability, sure_deliveries, sure_yield
+>>> basin, rights = parse_basin("site dale to mouth room 4 flow 6 1\nsite mouth flow 2 0\nright mill at mouth wants 3 4\nright farm at dale wants 3 2")
+>>> dry, wet = ((2, 1), (2, 0)), ((9, 9), (2, 0))
+>>> reliability(basin, rights, (dry, wet)), sure_deliveries(basin, rights, (dry, wet)), sure_yield(basin, (), "mouth", (dry, wet))
+((1, 1), ((3, 2), (0, 0)), 2)
+>>> hindsight(basin, rights, wet)
+((7, 7), (5, 5))
+''',
+    "rules": r'''
+>>> from heldwater.basintext import parse_basin
+>>> from heldwater.rules import best_even_target, run_by
+>>> basin, rights = parse_basin("site dale to mouth room 4 flow 6 1\nsite mouth flow 2 0\nright mill at mouth wants 3 4\nright farm at dale wants 3 2")
+>>> run_by(basin, rights, ((0, 0), (0, 0)))
+(((3, 0), (3, 1)), ((3, 0), (0, 0)), ((0, 0), (0, 0)))
+>>> best_even_target(basin, rights, ((0, 0), (0, 0)), "dale"), run_by(basin, rights, ((2, 2), (0, 0)))
+(1, (((3, 0), (3, 2)), ((1, 0), (0, 0)), ((2, 1), (0, 0))))
+''',
+    "projects": r'''
+>>> from heldwater.basintext import parse_basin
+>>> from heldwater.projects import Project
+>>> basin, rights = parse_basin("site dale to mouth room 1 flow 6 1\nsite mouth flow 2 0\nright mill at mouth wants 3 4")
+>>> project = Project(basin, rights)
+>>> project.edit(("room", "dale", 4)), project.edit(("inflows", "dale", (0, 9))), project.journal()
+((('mill', 1, 2, 4),), (('mill', 0, 3, 2),), 'room dale 4\ninflows dale 0 9\n')
+''',
 }
 
 

@@ -58,6 +58,19 @@ FUNCTIONS = {
     "curves": {
         "yield_curve": ["basin", "dam", "place"], "room_worth": ["basin", "rights"], "reach_worth": ["basin", "rights"],
     },
+    "ensembles": {
+        "of_table": ["basin", "table"], "reliability": ["basin", "rights", "ensemble"],
+        "sure_deliveries": ["basin", "rights", "ensemble"], "worst_table": ["basin", "rights", "ensemble", "name"],
+        "sure_yield": ["basin", "rights", "site", "ensemble"], "sure_room": ["basin", "rights", "site", "ensemble"],
+        "hindsight": ["basin", "rights", "table"],
+    },
+    "rules": {
+        "run_by": ["basin", "rights", "targets"], "best_even_target": ["basin", "rights", "targets", "site"],
+    },
+    "journal": {
+        "replay_docket": ["basin", "text"], "replay_season": ["basin", "rights", "text"],
+        "replay_project": ["basin", "rights", "text"],
+    },
 }
 
 # Each class with its methods and their arguments, file by file.
@@ -69,6 +82,10 @@ CLASSES = {
     "seasons": {"Season": {
         "__init__": ["self", "basin", "rights"], "close": ["self", "inflows"], "month": ["self"], "expected": ["self"],
         "outlook": ["self"], "records": ["self"], "undo": ["self"], "journal": ["self"],
+    }},
+    "projects": {"Project": {
+        "__init__": ["self", "basin", "rights"], "edit": ["self", "change"], "undo": ["self"], "basin": ["self"],
+        "rights": ["self"], "deliveries": ["self"], "journal": ["self"],
     }},
 }
 
